@@ -1,0 +1,1 @@
+"""Allbutts: which year buys more water, whatever the butt."""
