@@ -1,6 +1,11 @@
-"""How single numbers and runs are written; what reads whole texts is built on it."""
+"""What a number is, and how single numbers and runs are written; the other files build on it."""
 
 from allbutts.errors import BadText
+
+
+def is_number(thing):
+    """Whether thing is a number; True and False are none."""
+    return isinstance(thing, int) and not isinstance(thing, bool)
 
 
 def is_number_text(text):

@@ -1,7 +1,7 @@
 """Years: rows of rain and watering that come again and again."""
 
 from allbutts.errors import BadRun, BadText, NoPlace
-from allbutts.pieces import runs_in
+from allbutts.pieces import is_number, runs_in
 from allbutts.texts import runs_text
 
 MOST_RUNS = 40
@@ -80,7 +80,7 @@ class Year:
 
 def is_run(thing):
     """Whether thing is a run: a number that is not 0."""
-    return isinstance(thing, int) and not isinstance(thing, bool) and thing != 0
+    return is_number(thing) and thing != 0
 
 
 def is_runs(thing):
@@ -90,7 +90,7 @@ def is_runs(thing):
 
 def swings_of(runs):
     """The swings of the Year with these runs, the greatest first."""
-    sizes = [abs(run) for run in _ring_of(runs)]
+    sizes = [abs(run) for run in ring_of(runs)]
     found = []
     while len(sizes) > 2:
         # The least of all is greater than no neighbour, so it can always be struck.
@@ -110,10 +110,11 @@ def _sizes_without(sizes, place):
 
 def ring(year):
     """The ring of the Year: neighbours of one sign put together, so that signs alternate."""
-    return _ring_of(year.runs)
+    return ring_of(year.runs)
 
 
-def _ring_of(runs):
+def ring_of(runs):
+    """The ring of a row of runs, as ring tells it of a Year."""
     begin = _first_turn(runs)
     if begin is None:
         return (sum(runs),)

@@ -71,6 +71,16 @@ class LanguageTest(unittest.TestCase):
             used = {node.id for node in ast.walk(tree) if isinstance(node, ast.Name)}
             self.assertEqual(used & barred, set(), name)
 
+    def test_local_names(self):
+        for name, _, tree in read_files():
+            barred = set(dir(builtins)) | {node.name for node in tree.body if isinstance(node, ast.ClassDef)}
+            for node in tree.body:
+                if isinstance(node, ast.ImportFrom):
+                    barred |= {alias.name for alias in node.names}
+            bound = {node.arg for node in ast.walk(tree) if isinstance(node, ast.arg)}
+            stored = [node for node in ast.walk(tree) if isinstance(node, ast.Name) and isinstance(node.ctx, ast.Store)]
+            self.assertEqual((bound | {node.id for node in stored}) & barred, set(), name)
+
 
 def read_files():
     """For each file of the package its name, its text and its tree."""

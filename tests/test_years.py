@@ -7,17 +7,9 @@ from allbutts.errors import BadRun, BadText, NoPlace
 from allbutts.years import (
     Year, backwards, begun_at, is_run, is_runs, opposite, repeated, ring, scaled, swings_of,
 )
-from tests.helpers import ErrorCase
+from tests.helpers import GREAT, ErrorCase, rows_to
 
-GREAT = 10 ** 30
 PROPERTIES = ("runs", "rain", "draws", "wants", "spare", "swings", "heap", "text")
-
-
-def rows_to(length, size):
-    """All rows of at most so many runs, of sizes to this one."""
-    runs = [run for run in range(-size, size + 1) if run != 0]
-    for many in range(1, length + 1):
-        yield from itertools.product(runs, repeat=many)
 
 
 def all_swings_by_strikes(row):
