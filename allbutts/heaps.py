@@ -113,10 +113,10 @@ def _span_between(one, other, low, high):
 
 
 def _joined(spans):
-    """The spans, ascending, with those put together that meet."""
+    """The spans, ascending, with those put together that meet at a bend."""
     found = []
     for first, last in spans:
-        if len(found) > 0 and found[-1][1] + 1 >= first:
+        if len(found) > 0 and found[-1][1] == first:
             found[-1] = (found[-1][0], last)
         else:
             found.append((first, last))

@@ -98,3 +98,12 @@ def bought_straight(heap, butt):
     """What a heap buys with this butt, straight from the document."""
     wants, swings = heap
     return wants + sum(swing - butt for swing in swings if swing > butt)
+
+
+def year_with(heap):
+    """The runs of a year with this heap; it has swings, or it wants something."""
+    wants, swings = heap
+    if not swings:
+        return (-wants,)
+    runs = [run for swing in swings[1:] for run in (swing, -swing)]
+    return (*runs, swings[0], -swings[0] - wants)

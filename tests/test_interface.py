@@ -29,6 +29,19 @@ LISTED = {
         heap_within(one, other) heap_compare(one, other) most_over(one, other) butt_for(heap, most)
         heap_sum(one, other) below_both(one, other) above_both(one, other) bought_table(heap, most) is_table(thing)
         heap_of(table)""",
+    "longrun": """
+        bought(year, butt) spilled(year, butt) corners(year) least_butt(year, most) enough(year)
+        saved_by(year, butt, more) rests(year, butt) settles(year, butt, first)""",
+    "lead": """
+        never_more(one, other) spans_against(one, other) against(one, other) is_against(one, other, thing)
+        never_more_between(one, other, least, most) most_more(one, other) most_more_butt(one, other) alike(one, other)
+        compare(one, other) never_spills_more(one, other) most_spilled_more(one, other)""",
+    "steps": """
+        is_step(heap, thing) taken(heap, row) steps(one, other) is_steps(one, other, thing) gone_by(row)
+        lowers(step)""",
+    "made": """
+        fewest_runs(wants, spare, swings) made(wants, spare, swings) is_made(wants, spare, swings, year)
+        how_many_made(wants, spare, swings) all_made(wants, spare, swings)""",
 }
 
 
