@@ -90,6 +90,14 @@ def most_over(one, other):
     return max([excess(one, other, butt) for butt in bends(one, other)])
 
 
+def most_over_butt(one, other):
+    """The least butt with which one buys more than other by the greatest difference."""
+    # Between two bends the difference rises or falls evenly, so it comes to its greatest at one of them.
+    butts = bends(one, other)
+    found = [excess(one, other, butt) for butt in butts]
+    return butts[found.index(max(found))]
+
+
 def spans_over(one, other):
     """All pairs (first, last) of butts between which one buys more; the last one is None where there is no end."""
     points = bends(one, other)

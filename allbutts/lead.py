@@ -1,6 +1,6 @@
 """Two years side by side: with which butts one buys more than the other one, and how much more."""
 
-from allbutts.heaps import bends, excess, heap_compare, heap_within, most_over, spans_over
+from allbutts.heaps import excess, heap_compare, heap_within, most_over, most_over_butt, spans_over
 from allbutts.pieces import is_number
 
 
@@ -42,10 +42,7 @@ def most_more(one, other):
 
 def most_more_butt(one, other):
     """The least butt with which one buys more by the greatest number."""
-    # Between two bends the difference rises or falls evenly, so it comes to its greatest at one of them.
-    butts = bends(one.heap, other.heap)
-    found = [excess(one.heap, other.heap, butt) for butt in butts]
-    return butts[found.index(max(found))]
+    return most_over_butt(one.heap, other.heap)
 
 
 def alike(one, other):

@@ -1,7 +1,7 @@
 """Steps: within a heap something is taken away, or passed on, so that never more is bought."""
 
 from allbutts.errors import NoStep
-from allbutts.heaps import first_sums, heap_within
+from allbutts.heaps import heap_within
 from allbutts.pieces import is_number
 
 WANT = "want"

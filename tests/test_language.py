@@ -71,6 +71,24 @@ class LanguageTest(unittest.TestCase):
             used = {node.id for node in ast.walk(tree) if isinstance(node, ast.Name)}
             self.assertEqual(used & barred, set(), name)
 
+    def test_classes(self):
+        for name, _, tree in read_files():
+            for node in ast.walk(tree):
+                if isinstance(node, ast.ClassDef):
+                    defined = [item.name for item in node.body if isinstance(item, ast.FunctionDef)]
+                    self.assertEqual(len(defined), len(set(defined)), (name, node.name))
+                    # What is indexed would be iterated over otherwise.
+                    self.assertTrue("__getitem__" not in defined or "__iter__" in defined, (name, node.name))
+                    stored = {item.attr for item in ast.walk(node) if is_stored_attribute(item)}
+                    self.assertEqual(stored & set(defined), set(), (name, node.name))
+
+    def test_no_set_is_added_to(self):
+        # As a Board has a method add, no set may use its own.
+        for name, _, tree in read_files():
+            for node in ast.walk(tree):
+                if isinstance(node, ast.Call) and isinstance(node.func, ast.Attribute) and node.func.attr == "add":
+                    self.assertEqual((name, node.func.value.id), ("desk.py", "board"))
+
     def test_local_names(self):
         for name, _, tree in read_files():
             barred = set(dir(builtins)) | {node.name for node in tree.body if isinstance(node, ast.ClassDef)}
@@ -93,6 +111,10 @@ def defined_in(path):
     body = ast.parse(path.read_text(encoding="utf-8")).body
     assigned = {target.id for node in body if isinstance(node, ast.Assign) for target in node.targets}
     return assigned | {node.name for node in body if isinstance(node, kinds)}
+
+
+def is_stored_attribute(node):
+    return isinstance(node, ast.Attribute) and isinstance(node.ctx, ast.Store)
 
 
 def imported_by(path):
